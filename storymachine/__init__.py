@@ -1,0 +1,1 @@
+"""Taleroom: a machine for stories."""
