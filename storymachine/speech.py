@@ -3,7 +3,7 @@
 from storymachine.memory import read_byte, signed
 from storymachine.properties import name_place
 from storymachine.routines import return_value
-from storymachine.texts import NEWLINE, letter_bytes, place_behind, read_fives, spell, text_bytes
+from storymachine.texts import NEWLINE, fives_said, letter_bytes, place_behind, read_fives, text_bytes
 
 
 def say_newline(machine, operands):
@@ -13,7 +13,7 @@ def say_newline(machine, operands):
 def say_following(machine, operands):
     place = machine.state.place
     fives = read_fives(machine, place)
-    machine.said.extend(spell(machine, fives, False))
+    machine.said.extend(fives_said(machine, fives))
     machine.state.place = place_behind(place, fives)
 
 

@@ -2,20 +2,13 @@
 
 from storymachine.instructions import waits_for_line
 from storymachine.machine import given_word, new_machine
+from storymachine.questions import find_question
+from storymachine.replies import FITS, NO_STORY, NOT_WAITING, TOO_MUCH, UNFIT, answer, number_alone, typed_refusal
 from storymachine.steps import run_machine, try_line
-from storymachine.things import MOST_THINGS, thing_place
 
 FEWEST_BYTES = 64
 MOST_BYTES = 2048
 MOST_INSTRUCTIONS = 1000
-MOST_LETTERS = 255
-ENTRY_BYTES = 9
-
-UNFIT = -1
-TOO_MUCH = -2
-NOT_THERE = -3
-NOT_WAITING = -5
-NO_STORY = -8
 
 # How many whole numbers and how many rows stand behind each call's number.
 CALL_SHAPES = {
@@ -45,14 +38,6 @@ class Request:
         self.numbers = numbers
         self.row = row
         self.behind = behind
-
-
-def answer(number, told, further):
-    return [number, len(told)] + told + [len(further)] + further
-
-
-def number_alone(number):
-    return answer(number, [], [])
 
 
 def is_fit(given):
@@ -85,40 +70,16 @@ def run_story(room, numbers, row):
 def take_line_of(room, numbers, row):
     if not waits_for_line(room.machine):
         return number_alone(NOT_WAITING)
-    if len(row) > MOST_LETTERS:
-        return number_alone(TOO_MUCH)
-    if not all([32 <= letter <= 126 for letter in row]):
-        return number_alone(UNFIT)
+    refusal = typed_refusal(row)
+    if refusal != FITS:
+        return number_alone(refusal)
     outcome = try_line(room.machine, row)
     room.machine = outcome.machine
     return number_alone(outcome.fault)
 
 
-def tell_stand(room, numbers, row):
-    state = room.machine.state
-    return answer(0, [], [state.place, len(state.stack), len(state.calls)])
-
-
-def tell_byte(room, numbers, row):
-    memory = room.machine.state.memory
-    if numbers[0] >= len(memory):
-        return number_alone(NOT_THERE)
-    return number_alone(memory[numbers[0]])
-
-
-def tell_thing(room, numbers, row):
-    number = numbers[0]
-    if number < 1 or number > MOST_THINGS:
-        return number_alone(NOT_THERE)
-    place = thing_place(room.machine, number)
-    entry = room.machine.state.memory[place:place + ENTRY_BYTES]
-    if len(entry) < ENTRY_BYTES:
-        return number_alone(NOT_THERE)
-    marks = 65536 * given_word(entry, 0) + given_word(entry, 2)
-    return answer(0, [], entry[4:7] + [marks, given_word(entry, 7)])
-
-
-CALLS = {0: load_story, 1: run_story, 2: take_line_of, 3: tell_stand, 4: tell_byte, 5: tell_thing}
+# These change what the room holds; all other calls only ask.
+CHANGES = {0: load_story, 1: run_story, 2: take_line_of}
 
 
 def read_request(calls, begin):
@@ -137,10 +98,11 @@ def read_request(calls, begin):
 def answer_request(room, request):
     if room.machine is None and request.number not in NEED_NO_STORY:
         return number_alone(NO_STORY)
-    action = CALLS.get(request.number)
-    if action is None:
-        raise UnknownCall(request.number)
-    return action(room, request.numbers, request.row)
+    change = CHANGES.get(request.number)
+    if change is not None:
+        return change(room, request.numbers, request.row)
+    question = find_question(request.number)
+    return question(room.machine, request.numbers, request.row)
 
 
 def answers(calls):

@@ -47,18 +47,21 @@ def ten_bit_letter(fives, i):
     return letter_bytes(32 * fives[i + 1] + fives[i + 2])
 
 
-def abbreviation(machine, fives, i, within):
-    if within:
+def abbreviation(machine, fives, i, known):
+    if known is None:
         raise TextFault()
     if i + 1 >= len(fives):
         return []
     row = 32 * (fives[i] - 1) + fives[i + 1]
-    place = 2 * read_word(machine, machine.story.abbreviations + 2 * row)
-    return spell(machine, read_fives(machine, place), True)
+    if row not in known:
+        place = 2 * read_word(machine, machine.story.abbreviations + 2 * row)
+        known[row] = spell(machine, read_fives(machine, place), None)
+    return known[row]
 
 
-# within: the fives are an abbreviation's, in which no other may come.
-def spell(machine, fives, within):
+# known: what the abbreviations say that have come so far, so that a long one is spelled once alone;
+# None where the fives are an abbreviation's, in which no other may come.
+def spell(machine, fives, known):
     told = []
     alphabet = 0
     i = 0
@@ -70,7 +73,7 @@ def spell(machine, fives, within):
         if five == 0:
             told.append(SPACE)
         elif five < 4:
-            told.extend(abbreviation(machine, fives, i - 1, within))
+            told.extend(abbreviation(machine, fives, i - 1, known))
             i += 1
         elif five < 6:
             alphabet = five - 3
@@ -79,10 +82,16 @@ def spell(machine, fives, within):
             i += 2
         else:
             told.append(alphabet_byte(shifted, five))
+    return told
+
+
+# An abbreviation alone may be too long, but a later piece's own fault is met before the length of the whole.
+def fives_said(machine, fives):
+    told = spell(machine, fives, {})
     if len(told) > MOST_BYTES:
         raise TextFault()
     return told
 
 
 def text_bytes(machine, place):
-    return spell(machine, read_fives(machine, place), False)
+    return fives_said(machine, read_fives(machine, place))

@@ -5,6 +5,7 @@ from storymachine.memory import read_byte, write_byte
 
 MOST_THINGS = 255
 MOST_MARK = 31
+ENTRY_BYTES = 9
 
 PARENT = 4
 SIBLING = 5
@@ -19,7 +20,7 @@ def check_thing(number):
 
 def thing_place(machine, number):
     check_thing(number)
-    return machine.story.things + 62 + 9 * (number - 1)
+    return machine.story.things + 62 + ENTRY_BYTES * (number - 1)
 
 
 def read_link(machine, number, link):

@@ -141,6 +141,30 @@ def thing(number):
     return [5, number]
 
 
+def ask_name(number):
+    return [6, number]
+
+
+def ask_text(place):
+    return [7, place]
+
+
+def ask_prop(number, wanted):
+    return [8, number, wanted]
+
+
+def ask_word(row):
+    if isinstance(row, str):
+        row = signs(row)
+    return [9, len(row)] + row
+
+
+def ask_code(row):
+    if isinstance(row, str):
+        row = signs(row)
+    return [10, len(row)] + row
+
+
 def split_answers(told):
     """Each answer as (number, bytes, further numbers)."""
     found = []

@@ -3,10 +3,12 @@
 import random
 import unittest
 
+from storymachine.machine import new_machine
+from storymachine.steps import run_machine
 from storymachine.stories import answers
 from tests.helper import (
-    ABBREVIATIONS, BEGIN, DICTIONARY, FREE, SIZE, STAND, B, Seen, V, W, byte, line, load, new_story, op, run, split_answers,
-    tell, text_words, thing_bytes, two_bytes,
+    ABBREVIATIONS, BEGIN, DICTIONARY, FREE, SIZE, STAND, B, Seen, V, W, ask_code, ask_name, ask_prop, ask_text, ask_word,
+    byte, line, load, new_story, op, run, split_answers, tell, text_words, thing_bytes, two_bytes, whole_state,
 )
 
 LOW = 660
@@ -166,11 +168,40 @@ class Promises(unittest.TestCase):
             story[14:16] = two_bytes(chance.randint(64, size))
             calls = load(story, chance.getrandbits(64))
             for i in range(10):
-                calls += chance.choice((run(20), line("Take the lamp, then go."), STAND, byte(chance.randrange(3000)), [5, i]))
+                calls += chance.choice((
+                    run(20), line("Take the lamp, then go."), STAND, byte(chance.randrange(3000)), [5, i], ask_name(i),
+                    ask_text(chance.randrange(size + 9)), ask_prop(i, chance.randrange(40)), ask_word("lamp"), ask_code("go!"),
+                ))
             told = answers(calls)
             self.assertEqual(answers(calls), told)
             for answer in split_answers(told):
-                self.assertIn(answer[0], list(range(-8, 256)))
+                self.assertIn(answer[0], range(-8, 2048))
+
+    def test_0_6_goes_back_to_just_what_0_5_kept(self):
+        # Instructions that have no fault here, in any order, with keeping and going back among them.
+        some = [
+            op("4:8", B(5)), op("2:13", B(16), W(0x1234)), op("1:5", B(17)), op("4:7", B(99), to=18), op("4:2", W(320), B(1), B(7)),
+            op("2:11", B(1), B(3)), op("4:0", W(260), to=19), op("4:7", W(65500), to=20), op("4:5", B(65)), op("0:5", go=(True, 2)),
+        ]
+        back = 0
+        for number in range(60):
+            chance = random.Random(number)
+            code = [part for turn in range(12) for part in chance.choice(some)] + op("0:6", go=(True, 2))
+            machine = new_machine(new_story(code, parts=((520, [1, 0, 8, 176]),)), number)
+            kept = None
+            for turn in range(40):
+                first = machine.state.memory[machine.state.place]
+                report = run_machine(machine, 1)
+                self.assertEqual((report.number, report.done), (1, 1))
+                machine = report.machine
+                if first == 176 + 5:
+                    kept = whole_state(machine.state)
+                elif first == 176 + 6 and kept is None:
+                    break
+                elif first == 176 + 6:
+                    self.assertEqual(whole_state(machine.state), kept)
+                    back += 1
+        self.assertGreater(back, 60)
 
 
 if __name__ == "__main__":

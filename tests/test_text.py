@@ -159,6 +159,25 @@ class Spelling(unittest.TestCase):
         parts = ((650, text_words(fives)), (950, two_bytes(SIZE // 2)))
         self.assertEqual(fault(op("1:7", W(650)), parts=parts, head={24: 948}), 17)
 
+    def test_the_length_of_an_abbreviation_is_not_looked_at_by_itself(self):
+        # Abbreviation 0 alone is too long; 1 is beyond the end, 2 has an abbreviation in it, 3 says three letters.
+        parts = ((300, text_words([6] * 258)), (950, text_words([1, 0, 0])), (960, text_words(letters("end"))))
+        parts += (abbreviation_part(1, 0, 300), abbreviation_part(1, 1, SIZE), abbreviation_part(1, 2, 950))
+        parts += (abbreviation_part(1, 3, 960),)
+        for fives, number in (
+            ([1, 0], 21), ([1, 0, 1, 3], 21), ([1, 0, 6, 6, 1, 1], 17), ([1, 1, 1, 0], 17), ([1, 0, 1, 2, 1, 1], 21),
+            ([1, 0, 1, 1, 1, 2], 17), ([1, 0, 1, 0, 1, 1], 17), ([1, 3, 1, 0, 1, 3], 21),
+        ):
+            text = text_words(fives)
+            stood = parts + (thing_part(2, properties=FREE - 1), (FREE - 1, [len(text) // 2] + text))
+            for code in (op("0:2") + text, op("0:3") + text, op("1:7", W(FREE)), op("1:13", W(FREE // 2)), op("1:10", B(2))):
+                self.assertEqual(fault(code, at=600, parts=stood), number, (code, fives))
+
+    def test_the_same_abbreviation_again(self):
+        parts = ((950, text_words(letters("xyz"))), abbreviation_part(1, 0, 950), abbreviation_part(2, 0, 960))
+        parts += ((960, text_words(letters("uvw"))),)
+        self.assertEqual(self.said([1, 0, 1, 0, 2, 0, 1, 0, 6], parts), "xyzxyzuvwxyza")
+
 
 class Saying(unittest.TestCase):
     def test_1_7_at_the_storys_end(self):
